@@ -1,0 +1,1 @@
+"""soundkeep: recordings kept through damage."""

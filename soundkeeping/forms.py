@@ -1,0 +1,27 @@
+"""What a form is, and what fits a width."""
+
+# Least and greatest of channels, depth, block, order, group, spare.
+RANGES = ((1, 4), (4, 24), (16, 256), (0, 4), (1, 8), (0, 4))
+
+
+class Form:
+    def __init__(self, form):
+        self.channels = form[0]
+        self.depth = form[1]
+        self.block = form[2]
+        self.order = form[3]
+
+
+def is_form(form):
+    if len(form) != len(RANGES):
+        return False
+    return all([bounds[0] <= number <= bounds[1] for number, bounds in zip(form, RANGES)])
+
+
+def fits(width, number):
+    half = 1 << (width - 1)
+    return -half <= number < half
+
+
+def all_fit(width, numbers):
+    return all([fits(width, number) for number in numbers])

@@ -1,0 +1,372 @@
+"""Frames made and looked at by hand, and what the document's words make of numbers, the slow way.
+
+Nothing here uses the program: bits are texts of 0 and 1, fractions are exact, every way is tried.
+"""
+
+import binascii
+from fractions import Fraction
+
+FORM = [1, 16, 256, 4, 4, 2]
+
+
+def u(width, number):
+    assert 0 <= number < 2 ** width
+    return bin(number + 2 ** width)[3:]
+
+
+def s(width, number):
+    assert width == 0 and number == 0 or -(2 ** (width - 1)) <= number < 2 ** (width - 1)
+    return u(width, number % 2 ** width)
+
+
+def run(zeros):
+    return "0" * zeros + "1"
+
+
+def head(k, n):
+    return u(16, 0x4B57) + u(20, k) + u(8, n - 1)
+
+
+def padded(bits):
+    return bits + "0" * (-len(bits) % 8)
+
+
+def to_bytes(bits):
+    bits = padded(bits)
+    return [int(bits[i:i + 8], 2) for i in range(0, len(bits), 8)]
+
+
+def closed(bits):
+    """The bytes of a frame of these bits: zeros up to a byte, and the check."""
+    data = to_bytes(bits)
+    check = binascii.crc_hqx(bytes(data), 0xFFFF)
+    return data + [check >> 8, check & 255]
+
+
+def zeros_bits(z):
+    return "0" if z == 0 else "1" + run(z - 1)
+
+
+def fold(e):
+    return 2 * e if e >= 0 else -2 * e - 1
+
+
+def rest_bits(g, v, e):
+    if g == 31:
+        return s(v, e)
+    return run(fold(e) >> g) + u(g, fold(e) % 2 ** g)
+
+
+def group_bits(g, v, rests):
+    return u(5, g) + (u(6, v) if g == 31 else "") + "".join(rest_bits(g, v, e) for e in rests)
+
+
+def rests_bits(n, p, r, ways, rests):
+    """ways: of each group its (g, v)."""
+    text = u(3, r)
+    for (g, v), part in zip(ways, split(n, p, r, rests), strict=True):
+        text += group_bits(g, v, part)
+    return text
+
+
+def split(n, p, r, rests):
+    size = n // 2 ** r
+    groups = [rests[:size - p]]
+    while len(groups) < 2 ** r:
+        done = len(groups) * size - p
+        groups.append(rests[done:done + size])
+    assert sum(len(group) for group in groups) == len(rests) == n - p
+    return groups
+
+
+def same(w, number, z=0):
+    return zeros_bits(z) + u(4, 0) + s(w - z, number // 2 ** z)
+
+
+def plain(w, numbers, z=0):
+    return zeros_bits(z) + u(4, 1) + "".join(s(w - z, y // 2 ** z) for y in numbers)
+
+
+COEFFICIENTS = {0: [], 1: [1], 2: [2, -1], 3: [3, -3, 1], 4: [4, -6, 4, -1]}
+
+
+def rests_of(factors, h, ys):
+    p = len(factors)
+    return [ys[t] - sum(a * ys[t - 1 - i] for i, a in enumerate(factors)) // 2 ** h for t in range(p, len(ys))]
+
+
+def first_bits(w, ys, p):
+    return "".join(s(w, y) for y in ys[:p])
+
+
+def fixed(w, p, numbers, r=0, ways=((0, 0),), z=0):
+    ys = [y // 2 ** z for y in numbers]
+    rests = rests_of(COEFFICIENTS[p], 0, ys)
+    return zeros_bits(z) + u(4, 2 + p) + first_bits(w - z, ys, p) + rests_bits(len(ys), p, r, ways, rests)
+
+
+def linear(w, h, factors, numbers, r=0, ways=((0, 0),), z=0):
+    ys = [y // 2 ** z for y in numbers]
+    p = len(factors)
+    text = zeros_bits(z) + u(4, 6 + p) + first_bits(w - z, ys, p) + u(4, h) + "".join(s(12, a) for a in factors)
+    return text + rests_bits(len(ys), p, r, ways, rests_of(factors, h, ys))
+
+
+# What the document says of the least, word by word.
+
+def shared_zeros(w, numbers):
+    if not any(numbers):
+        return 0
+    z = 0
+    while z < w - 1 and all(y % 2 ** (z + 1) == 0 for y in numbers):
+        z += 1
+    return z
+
+
+def rank_and_answer(rows):
+    """Gauss with fractions, pivots looked for: the only answer of the equations, or None."""
+    rows = [[Fraction(x) for x in row] for row in rows]
+    p = len(rows)
+    for c in range(p):
+        at = next((i for i in range(c, p) if rows[i][c] != 0), None)
+        if at is None:
+            return None
+        rows[c], rows[at] = rows[at], rows[c]
+        rows[c] = [x / rows[c][c] for x in rows[c]]
+        for i in range(p):
+            if i != c:
+                rows[i] = [x - rows[i][c] * y for x, y in zip(rows[i], rows[c])]
+    return [row[p] for row in rows]
+
+
+def best_factors(p, ys):
+    ts = range(p, len(ys))
+    rows = [[sum(ys[t - i] * ys[t - j] for t in ts) for j in list(range(1, p + 1)) + [0]] for i in range(1, p + 1)]
+    return rank_and_answer(rows)
+
+
+def rounded(fraction):
+    whole = int(abs(fraction) + Fraction(1, 2))
+    return whole if fraction >= 0 else -whole
+
+
+def shift_and_factors(p, ys):
+    exact = best_factors(p, ys)
+    if exact is None:
+        return None
+    for h in range(15, -1, -1):
+        factors = [rounded(a * 2 ** h) for a in exact]
+        if all(-2048 <= a <= 2047 for a in factors):
+            return h, factors
+    return None
+
+
+def least_v(rests):
+    v = 0
+    while not all(e == 0 if v == 0 else -(2 ** (v - 1)) <= e < 2 ** (v - 1) for e in rests):
+        v += 1
+    return v
+
+
+def group_size(g, v, rests):
+    if g == 31:
+        return 5 + 6 + v * len(rests)
+    return 5 + sum((fold(e) >> g) + 1 + g for e in rests)
+
+
+def best_group(rests):
+    v = least_v(rests)
+    sizes = [group_size(g, v, rests) for g in range(32)]
+    g = sizes.index(min(sizes))
+    return sizes[g], g, v, sizes
+
+
+def best_rests(n, p, rests):
+    """Bits, r, the groups' (g, v); then, for the tests, all that was weighed against it."""
+    found = []
+    for r in range(7):
+        if n % 2 ** r == 0 and n // 2 ** r >= p:
+            groups = [best_group(group) for group in split(n, p, r, rests)]
+            found.append((3 + sum(group[0] for group in groups), r, [(g, v) for bits, g, v, sizes in groups], groups))
+    return min(found, key=lambda way: (way[0], way[1])), found
+
+
+def ways_of_part(w, numbers):
+    """For each kind from 1 to 10 its bits as a text, and its choices; None where it can't be."""
+    z = shared_zeros(w, numbers)
+    ys = [y // 2 ** z for y in numbers]
+    n = len(ys)
+    ways = {1: plain(w, numbers, z)}
+    for p in range(5):
+        ways[2 + p] = None
+        if p <= n:
+            best = best_rests(n, p, rests_of(COEFFICIENTS[p], 0, ys))[0]
+            ways[2 + p] = fixed(w, p, numbers, best[1], best[2], z)
+    for p in range(1, 5):
+        ways[6 + p] = None
+        found = shift_and_factors(p, ys) if p < n else None
+        if found is not None:
+            h, factors = found
+            best = best_rests(n, p, rests_of(factors, h, ys))[0]
+            ways[6 + p] = linear(w, h, factors, numbers, best[1], best[2], z)
+    return ways
+
+
+def least_part(w, order, numbers):
+    if len(set(numbers)) == 1:
+        return same(w, numbers[0], shared_zeros(w, numbers))
+    ways = ways_of_part(w, numbers)
+    texts = [ways[kind] for kind in range(1, 7 + order) if ways[kind] is not None]
+    return min(texts, key=len)
+
+
+def pair_texts(depth, order, a, b):
+    parts = {
+        "a": least_part(depth, order, a),
+        "b": least_part(depth, order, b),
+        "s": least_part(depth + 1, order, [x - y for x, y in zip(a, b)]),
+        "m": least_part(depth, order, [(x + y) // 2 for x, y in zip(a, b)]),
+    }
+    return [parts[names[0]] + parts[names[1]] for names in ("ab", "as", "sb", "ms")]
+
+
+def least_frame(k, form, numbers):
+    channels, depth, block, order, group, spare = form
+    rows = [numbers[c::channels] for c in range(channels)]
+    modes, text = "", ""
+    for c in range(0, channels - 1, 2):
+        texts = pair_texts(depth, order, rows[c], rows[c + 1])
+        sizes = [len(one) for one in texts]
+        mode = sizes.index(min(sizes))
+        modes += u(2, mode)
+        text += texts[mode]
+    if channels % 2:
+        text += least_part(depth, order, rows[-1])
+    return closed(head(k, len(rows[0])) + modes + text)
+
+
+class Look:
+    """A frame that's right, looked through for what its writer chose."""
+
+    def __init__(self, form, data):
+        self.bits = "".join(u(8, byte) for byte in data)
+        self.at = 0
+        self.parts = []
+        assert self.u(16) == 0x4B57
+        self.k = self.u(20)
+        self.n = self.u(8) + 1
+        self.modes = [self.u(2) for pair in range(form[0] // 2)]
+        widths = []
+        for mode in self.modes:
+            widths += [form[1] + (mode == 2), form[1] + (mode in (1, 3))]
+        for w in (widths + [form[1]])[:form[0]]:
+            self.parts.append(self.part(w))
+
+    def u(self, width):
+        self.at += width
+        return int("0" + self.bits[self.at - width:self.at], 2)
+
+    def run(self):
+        before = self.at
+        self.at = self.bits.index("1", before) + 1
+        return self.at - before - 1
+
+    def part(self, w):
+        begin = self.at
+        z = self.run() + 1 if self.u(1) else 0
+        kind = self.u(4)
+        found = {"z": z, "kind": kind, "h": None, "factors": [], "r": None, "ways": []}
+        p = 0 if kind < 2 else kind - 2 if kind < 7 else kind - 6
+        for number in range({0: 1, 1: self.n}.get(kind, p)):
+            self.u(w - z)
+        if kind >= 7:
+            found["h"] = self.u(4)
+            found["factors"] = [(self.u(12) + 2048) % 4096 - 2048 for factor in range(p)]
+        if kind >= 2:
+            self.rests(found, p)
+        found["bits"] = self.at - begin
+        return found
+
+    def rests(self, found, p):
+        found["r"] = self.u(3)
+        size = self.n // 2 ** found["r"]
+        for group in range(2 ** found["r"]):
+            g = self.u(5)
+            v = self.u(6) if g == 31 else None
+            found["ways"].append((g, v))
+            for rest in range(size - (p if group == 0 else 0)):
+                if g == 31:
+                    self.u(v)
+                else:
+                    self.run()
+                    self.u(g)
+
+
+# What several tests hand in.
+
+NO_FORMS = [[], [1], [1, 16, 16, 0, 1], [1, 16, 16, 0, 1, 0, 0], [1, 16, 16, 0, 1, 0, 0, 0]]
+NO_FORMS += [[1, 16, 16, 0, 1, 0][:i] + [bad] + [1, 16, 16, 0, 1, 0][i + 1:] for i, bads in enumerate((
+    (0, 5, 4294967295), (3, 25, 4294967295), (15, 257, 4294967295), (5, 4294967295), (0, 9, 4294967295), (5, 4294967295),
+)) for bad in bads]
+EDGE_FORMS = [[c, d, b, o, g, e] for c in (1, 4) for d in (4, 24) for b in (16, 256) for o in (0, 4)
+              for g, e in ((1, 0), (8, 4))]
+
+
+def clipped(depth, numbers):
+    half = 2 ** (depth - 1)
+    return [max(-half, min(half - 1, number)) for number in numbers]
+
+
+def row(rnd, depth, n):
+    """n numbers of one channel, of one of several sorts of sound and noise."""
+    half = 2 ** (depth - 1)
+    a = 2 ** rnd.randrange(depth)
+    sort = rnd.randrange(9)
+    if sort == 0:
+        numbers = [rnd.randint(-half, half - 1) for t in range(n)]
+    elif sort == 1:
+        numbers = [rnd.randint(-a, a) for t in range(n)]
+    elif sort == 2:
+        numbers = [rnd.randint(-a, a)] * n
+    elif sort == 3:
+        z = rnd.randrange(depth)
+        numbers = [rnd.randint(-half >> z, half - 1 >> z) << z for t in range(n)]
+    elif sort == 4:
+        numbers = [rnd.choice([-half, half - 1, 0, -1, 1]) for t in range(n)]
+    elif sort == 5:
+        numbers = [rnd.choice([0, 0, 0, rnd.randint(-a, a)]) if t < n // 2 else 0 for t in range(n)]
+    elif sort == 6:
+        numbers = [0]
+        while len(numbers) < n:
+            numbers.append(numbers[-1] + rnd.randint(-a, a))
+    elif sort == 7:
+        numbers = [t * t * rnd.randint(1, 3) // 7 + t * a for t in range(n)]
+    else:
+        numbers = [rnd.randint(-a, a) for t in range(4)]
+        factors = [rnd.randint(-150, 150) for t in range(4)]
+        while len(numbers) < n:
+            guess = sum(f * y for f, y in zip(factors, numbers[:-5:-1])) // 100 + rnd.randint(-2, 2)
+            numbers += clipped(depth, [guess])
+    return clipped(depth, numbers[:n])
+
+
+def near(rnd, depth, numbers):
+    sign = rnd.choice([1, 1, -1])
+    return clipped(depth, [sign * y + rnd.randint(-2, 2) for y in numbers])
+
+
+def sound(rnd, form, n):
+    """n samples for the form, channels now and then like one another."""
+    rows = [row(rnd, form[1], n)]
+    while len(rows) < form[0]:
+        rows.append(near(rnd, form[1], rows[-1]) if rnd.random() < 0.6 else row(rnd, form[1], n))
+    return [rows[c][t] for t in range(n) for c in range(form[0])]
+
+
+def some_form(rnd, n):
+    return [rnd.randint(1, 4), rnd.randint(4, 24), rnd.randint(max(16, n), 256), rnd.randint(0, 4),
+            rnd.randint(1, 8), rnd.randint(0, 4)]
+
+
+def woven(*rows):
+    return [number for sample in zip(*rows, strict=True) for number in sample]
