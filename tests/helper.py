@@ -312,6 +312,14 @@ EDGE_FORMS = [[c, d, b, o, g, e] for c in (1, 4) for d in (4, 24) for b in (16, 
               for g, e in ((1, 0), (8, 4))]
 
 
+def mono(depth, order=4, block=256):
+    return [1, depth, block, order, 1, 0]
+
+
+def stereo(depth, order=4):
+    return [2, depth, 256, order, 1, 0]
+
+
 def clipped(depth, numbers):
     half = 2 ** (depth - 1)
     return [max(-half, min(half - 1, number)) for number in numbers]

@@ -3,17 +3,9 @@
 import random
 import unittest
 
-from helper import (EDGE_FORMS, FORM, NO_FORMS, Look, closed, fixed, head, least_frame, linear, plain, same, some_form,
-                    sound, u, woven)
+from helper import (EDGE_FORMS, FORM, NO_FORMS, Look, closed, fixed, head, least_frame, linear, mono, plain, same,
+                    some_form, sound, stereo, u, woven)
 from soundkeeping.keeping import frame, unframe, weigh
-
-
-def mono(depth, order=4, block=256):
-    return [1, depth, block, order, 1, 0]
-
-
-def stereo(depth, order=4):
-    return [2, depth, 256, order, 1, 0]
 
 
 class Frames(unittest.TestCase):

@@ -3,20 +3,12 @@
 import random
 import unittest
 
-from helper import (EDGE_FORMS, FORM, NO_FORMS, closed, first_bits, fixed, group_bits, head, linear, plain, run, s,
-                    same, some_form, sound, to_bytes, u, woven, zeros_bits)
+from helper import (EDGE_FORMS, FORM, NO_FORMS, closed, first_bits, fixed, group_bits, head, linear, mono, plain, run,
+                    s, same, some_form, sound, stereo, to_bytes, u, woven, zeros_bits)
 from soundkeeping.keeping import frame, unframe
 
 # Behind what's told to be wrong, or a frame's end, anything may stand.
 TAILS = ("", "0" * 64, "1" * 64, "01101001" * 8, "10" * 32)
-
-
-def mono(depth, order=4, block=256):
-    return [1, depth, block, order, 1, 0]
-
-
-def stereo(depth, order=4):
-    return [2, depth, 256, order, 1, 0]
 
 
 class Unframed(unittest.TestCase):
