@@ -1,5 +1,7 @@
 """What a form is, and what fits a width."""
 
+# All channels' numbers together.
+MOST_NUMBERS = 2048
 # Least and greatest of channels, depth, block, order, group, spare.
 RANGES = ((1, 4), (4, 24), (16, 256), (0, 4), (1, 8), (0, 4))
 
@@ -10,6 +12,14 @@ class Form:
         self.depth = form[1]
         self.block = form[2]
         self.order = form[3]
+        self.group = form[4]
+        self.spare = form[5]
+
+    def frame_count(self, samples):
+        return (samples + self.block - 1) // self.block
+
+    def last_of_group(self, k, frame_count):
+        return (k + 1) % self.group == 0 or k + 1 == frame_count
 
 
 def is_form(form):

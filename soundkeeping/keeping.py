@@ -1,14 +1,29 @@
 """The calls of soundkeep. Each answers one list of whole numbers, or a refusal alone."""
 
 from soundkeeping.bits import Short, Wrong
-from soundkeeping.forms import Form, all_fit, is_form
+from soundkeeping.files import write_file
+from soundkeeping.forms import MOST_NUMBERS, Form, all_fit, is_form
 from soundkeeping.frames import read_frame, write_frame
 from soundkeeping.parts import kind_bits
+from soundkeeping.reading import Faulty
+from soundkeeping.spares import MOST_PIECES, Unfit, Unmade, made_anew, read_pieces, read_rows, write_piece, write_rows
+from soundkeeping.tags import write_tags
 
 # What the number of a frame has to be below.
 FRAME_NUMBERS = 1048576
+# What the number of a group has to be below.
+GROUP_NUMBERS = 65536
 GREATEST_WIDTH = 25
 MOST_WEIGHED = 256
+LONGEST_FILE = 16384
+
+
+def counted(data):
+    return [len(data)] + data
+
+
+def file_answer(data):
+    return [-8] if len(data) > LONGEST_FILE else counted(data)
 
 
 def frame(k, form, numbers):
@@ -19,8 +34,7 @@ def frame(k, form, numbers):
         return [-1]
     if not all_fit(shape.depth, numbers):
         return [-2]
-    written = write_frame(shape, k, numbers)
-    return [len(written)] + written
+    return counted(write_frame(shape, k, numbers))
 
 
 def unframe(form, data):
@@ -41,3 +55,47 @@ def weigh(w, numbers):
     if not all_fit(w, numbers):
         return [-2]
     return kind_bits(w, numbers)
+
+
+def spare(g, j, rows):
+    if g >= GROUP_NUMBERS or j >= MOST_PIECES:
+        return [-1]
+    try:
+        frames = read_rows(rows, 1)
+    except Unfit:
+        return [-2]
+    return counted(write_piece(g, j, frames))
+
+
+def anew(g, rows, pieces):
+    if g >= GROUP_NUMBERS:
+        return [-1]
+    try:
+        frames = read_rows(rows, 0)
+        found = read_pieces(g, pieces)
+    except Unfit:
+        return [-2]
+    lost = len([one for one in frames if len(one) == 0])
+    if lost == 0:
+        return counted(rows)
+    if lost > len(found):
+        return [-3]
+    try:
+        return counted(write_rows(made_anew(frames, found[:lost])))
+    except Unmade:
+        return [-4]
+
+
+def pack(pad, form, numbers, tags):
+    if not is_form(form):
+        return [-1]
+    shape = Form(form)
+    if len(numbers) % shape.channels != 0 or len(numbers) > MOST_NUMBERS:
+        return [-1]
+    if not all_fit(shape.depth, numbers):
+        return [-2]
+    try:
+        tags_part = write_tags(pad, tags)
+    except Faulty:
+        return [-3]
+    return file_answer(write_file(shape, numbers, tags_part))

@@ -4,6 +4,7 @@ Nothing here uses the program: bits are texts of 0 and 1, fractions are exact, e
 """
 
 import binascii
+import zlib
 from fractions import Fraction
 
 FORM = [1, 16, 256, 4, 4, 2]
@@ -302,6 +303,122 @@ class Look:
                     self.u(g)
 
 
+# Spare pieces, place by place.
+
+def number(count, value):
+    return list(value.to_bytes(count, "big"))
+
+
+def crc(data):
+    return number(4, zlib.crc32(bytes(data)))
+
+
+def times(a, b):
+    """The product of two polynomials, and what's left of it over x^8 + x^4 + x^3 + x^2 + 1."""
+    product = 0
+    for bit in range(8):
+        product ^= (b >> bit & 1) * a << bit
+    for bit in range(15, 7, -1):
+        product ^= (product >> bit & 1) * 0b100011101 << bit - 8
+    return product
+
+
+# For each divisor that there is, what times it makes each byte.
+OVER = {divisor: {times(divisor, byte): byte for byte in range(256)} for divisor in range(128, 136)}
+
+
+def rows_of(frames):
+    """Frames with their lengths before them; a lost one is an empty one."""
+    return [byte for one in frames for byte in number(2, len(one)) + one]
+
+
+def piece_of(g, j, r, row):
+    data = [0x4B, 0x50] + number(2, g) + [j] + number(2, r) + row
+    return data + crc(data)
+
+
+def piece_of_rows(g, j, rows):
+    """A piece of rows that are all as long, whatever they hold."""
+    row = []
+    for place in range(len(rows[0])):
+        total = 0
+        for i, one in enumerate(rows):
+            total ^= OVER[i ^ 128 + j][one[place]]
+        row.append(total)
+    return piece_of(g, j, len(row), row)
+
+
+def full_rows(frames, r=None):
+    r = r or max(len(one) for one in frames) + 2
+    return [(number(2, len(one)) + one + [0] * r)[:r] for one in frames]
+
+
+def piece(g, j, frames):
+    return piece_of_rows(g, j, full_rows(frames))
+
+
+def some_bytes(rnd, count):
+    return [rnd.choice([0, 255, rnd.randrange(256)]) for byte in range(count)]
+
+
+def some_frames(rnd, count, most=40):
+    return [some_bytes(rnd, rnd.choice([1, 2, most, rnd.randint(1, most)])) for one in range(count)]
+
+
+# Files, part by part.
+
+def tag(key, value=()):
+    return [len(key)] + [ord(sign) for sign in key] + number(2, len(value)) + list(value)
+
+
+def tags_part(tags, pad=0, count=None):
+    """tags: a list of single ones."""
+    data = number(2, len(tags) if count is None else count) + [byte for one in tags for byte in one] + [0] * pad
+    return data + crc(data)
+
+
+def head_of(form, samples, size):
+    channels, depth, block, order, group, spare = form
+    data = [0x53, 0x4B, 0x45, 0x45, 0x50, 0x01, 0x0D, 0x0A, channels, depth] + number(2, block) + [group, spare]
+    data += number(4, samples) + number(4, size)
+    return data + crc(data)
+
+
+def index_of(starts):
+    data = [byte for start in starts for byte in number(3, start)]
+    return data + crc(data)
+
+
+def sum_of(depth, numbers):
+    count = 1 if depth <= 8 else 2 if depth <= 16 else 3
+    return crc([byte for one in numbers for byte in one.to_bytes(count, "little", signed=True)])
+
+
+def frames_of(form, numbers, writer=least_frame):
+    size = form[0] * form[2]
+    return [writer(k, form, numbers[k * size:k * size + size]) for k in range(-(-len(numbers) // size))]
+
+
+def body_of(form, frames):
+    """Of groups of frames: all the bytes, and where each frame begins."""
+    data, starts = [], []
+    for g in range(0, -(-len(frames) // form[4])):
+        group = frames[g * form[4]:g * form[4] + form[4]]
+        for one in group:
+            starts.append(len(data))
+            data += one
+        for j in range(form[5]):
+            data += piece(g, j, group)
+    return data, starts
+
+
+def file_of(form, numbers, tags=(), pad=0, writer=least_frame):
+    data, starts = body_of(form, frames_of(form, numbers, writer))
+    part = tags_part(tags, pad)
+    head, index = head_of(form, len(numbers) // form[0], len(part)), index_of(starts)
+    return head + part + index + data + index + head + sum_of(form[1], numbers)
+
+
 # What several tests hand in.
 
 NO_FORMS = [[], [1], [1, 16, 16, 0, 1], [1, 16, 16, 0, 1, 0, 0], [1, 16, 16, 0, 1, 0, 0, 0]]
@@ -378,3 +495,16 @@ def some_form(rnd, n):
 
 def woven(*rows):
     return [number for sample in zip(*rows, strict=True) for number in sample]
+
+
+def flat(lists):
+    return [item for one in lists for item in one]
+
+
+def some_tags(rnd, most=16):
+    """Tags of keys that differ, as single ones, short enough to have room together."""
+    tags = []
+    for place in range(rnd.choice([0, 1, 2, 3, rnd.randint(0, most)])):
+        key = "k" * rnd.randint(0, 3) + "abcdefghijklmnop"[place] + rnd.choice(["", "!", "~", "<>"])
+        tags.append(tag(key, some_bytes(rnd, rnd.choice([0, 0, 1, 5, rnd.randint(0, 40)]))))
+    return tags
