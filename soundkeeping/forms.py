@@ -18,6 +18,9 @@ class Form:
     def frame_count(self, samples):
         return (samples + self.block - 1) // self.block
 
+    def frame_samples(self, k, samples):
+        return min(self.block, samples - k * self.block)
+
     def last_of_group(self, k, frame_count):
         return (k + 1) % self.group == 0 or k + 1 == frame_count
 

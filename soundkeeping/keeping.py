@@ -4,6 +4,7 @@ from soundkeeping.bits import Short, Wrong
 from soundkeeping.files import write_file
 from soundkeeping.forms import MOST_NUMBERS, Form, all_fit, is_form
 from soundkeeping.frames import read_frame, write_frame
+from soundkeeping.judge import hear_beginning, hear_file
 from soundkeeping.parts import kind_bits
 from soundkeeping.reading import Faulty
 from soundkeeping.spares import MOST_PIECES, Unfit, Unmade, made_anew, read_pieces, read_rows, write_piece, write_rows
@@ -99,3 +100,31 @@ def pack(pad, form, numbers, tags):
     except Faulty:
         return [-3]
     return file_answer(write_file(shape, numbers, tags_part))
+
+
+def check(data):
+    reading = hear_file(data).reading
+    return [reading.fault, reading.fault_place]
+
+
+def hear(data):
+    heard = hear_file(data)
+    answer = [heard.reading.fault, heard.reading.fault_place] + head_answer(heard.head)
+    return answer + [len(heard.tags), heard.frames_taken, len(heard.numbers)] + heard.numbers
+
+
+def head_answer(head):
+    if head is None:
+        return [0]
+    form = head.form
+    return [1, form.channels, form.depth, form.block, form.group, form.spare, head.samples, head.tags_size]
+
+
+def find(file, key):
+    heard = hear_beginning(file)
+    if heard.reading.fault != 0:
+        return [-2]
+    for place, tag in enumerate(heard.tags):
+        if tag.key == key:
+            return [place] + counted(tag.value)
+    return [-3]

@@ -17,13 +17,13 @@ class Reading:
         self.fault = 0
         self.fault_place = len(data)
 
-    def stop(self, fault, place):
+    def stop_at(self, fault, place):
         self.fault = fault
         self.fault_place = place
         raise Faulty()
 
     def end_too_soon(self):
-        self.stop(ENDS_TOO_SOON, len(self.data))
+        self.stop_at(ENDS_TOO_SOON, len(self.data))
 
     def take(self, count):
         begin = self.place
@@ -39,4 +39,4 @@ class Reading:
     def seal(self, begin, fault):
         place = self.place
         if self.number(CRC32_SIZE) != crc32(self.data[begin:place]):
-            self.stop(fault, place)
+            self.stop_at(fault, place)

@@ -84,11 +84,11 @@ def write_piece(g, j, frames):
 # The piece that stands whole at a place, with a right check, whatever its group and j; None if there's none.
 def piece_at(data, place):
     front = data[place:place + FRONT_SIZE]
-    if len(front) < FRONT_SIZE or from_octets(front[:2]) != MARK:
-        return None
     row_size = from_octets(front[5:])
     behind = place + FRONT_SIZE + row_size
-    if not SHORTEST_ROW <= row_size <= LONGEST_ROW or behind + CRC32_SIZE > len(data):
+    if from_octets(front[:2]) != MARK or not SHORTEST_ROW <= row_size <= LONGEST_ROW:
+        return None
+    if behind + CRC32_SIZE > len(data):
         return None
     if from_octets(data[behind:behind + CRC32_SIZE]) != crc32(data[place:behind]):
         return None

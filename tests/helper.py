@@ -4,6 +4,7 @@ Nothing here uses the program: bits are texts of 0 and 1, fractions are exact, e
 """
 
 import binascii
+import functools
 import zlib
 from fractions import Fraction
 
@@ -399,27 +400,163 @@ def frames_of(form, numbers, writer=least_frame):
     return [writer(k, form, numbers[k * size:k * size + size]) for k in range(-(-len(numbers) // size))]
 
 
-def body_of(form, frames):
-    """Of groups of frames: all the bytes, and where each frame begins."""
-    data, starts = [], []
-    for g in range(0, -(-len(frames) // form[4])):
-        group = frames[g * form[4]:g * form[4] + form[4]]
-        for one in group:
-            starts.append(len(data))
-            data += one
-        for j in range(form[5]):
-            data += piece(g, j, group)
-    return data, starts
+class Made:
+    """A file in its parts, by name, each of which a test may change by itself."""
+
+    def __init__(self, form, numbers, tags=(), pad=0, writer=least_frame):
+        part = tags_part(tags, pad)
+        self.parts = {"head": head_of(form, len(numbers) // form[0], len(part)), "tags": part, "index": []}
+        starts = self.add_body(form, frames_of(form, numbers, writer))
+        self.parts["index"] = self.parts["index again"] = index_of(starts)
+        self.parts["head again"] = self.parts["head"]
+        self.parts["sum"] = sum_of(form[1], numbers)
+
+    def add_body(self, form, frames):
+        starts, at = [], 0
+        for k, one in enumerate(frames):
+            g = k // form[4]
+            starts.append(at)
+            self.parts[f"frame {k}"] = one
+            at += len(one)
+            if k % form[4] == form[4] - 1 or k == len(frames) - 1:
+                for j in range(form[5]):
+                    self.parts[f"piece {g} {j}"] = piece(g, j, frames[g * form[4]:k + 1])
+                    at += len(self.parts[f"piece {g} {j}"])
+        return starts
+
+    def data(self):
+        return flat(self.parts.values())
+
+    def place(self, name):
+        names = list(self.parts)
+        return sum(len(self.parts[before]) for before in names[:names.index(name)])
+
+    def changed(self, name, part):
+        """The bytes with another part in the place of one."""
+        return flat(part if one == name else self.parts[one] for one in self.parts)
 
 
 def file_of(form, numbers, tags=(), pad=0, writer=least_frame):
-    data, starts = body_of(form, frames_of(form, numbers, writer))
-    part = tags_part(tags, pad)
-    head, index = head_of(form, len(numbers) // form[0], len(part)), index_of(starts)
-    return head + part + index + data + index + head + sum_of(form[1], numbers)
+    return Made(form, numbers, tags, pad, writer).data()
+
+
+# The judge, told look by look: how many bytes have to be there, whether it's right, the fault, its place.
+
+def judged(data, unframe):
+    """Fault and place, and what's known by then: the head's numbers, tags, frames, numbers."""
+    known = {"head": [], "tags": [], "frames": 0, "numbers": []}
+    for needed, right, fault, place in all_looks(data, known, unframe):
+        if needed > len(data):
+            return [1, len(data)], known
+        if not right:
+            return [fault, place], known
+    return [0, len(data)], known
+
+
+def heard(data, unframe):
+    """What hear answers."""
+    told, known = judged(data, unframe)
+    head = [1] + known["head"] if known["head"] else [0]
+    return told + head + [len(known["tags"]), known["frames"], len(known["numbers"])] + known["numbers"]
+
+
+def value(data):
+    return int.from_bytes(bytes(data), "big")
+
+
+def all_looks(data, known, unframe):
+    yield from head_looks(data, known)
+    channels, depth, block, group, spare, samples, size = known["head"]
+    yield from tag_looks(data, 26 + size - 4, known)
+    begin, count = 26 + size, -(-samples // block)
+    first = begin + 3 * count + 4
+    starts = []
+    for at in range(begin, first - 4, 3):
+        starts.append(value(data[at:at + 3]))
+        yield at + 3, starts[-1] > starts[-2] if len(starts) > 1 else starts[-1] == 0, 7, at
+    yield first, data[first - 4:first] == crc(data[begin:first - 4]), 8, first - 4
+    at, frames = first, []
+    for k, start in enumerate(starts):
+        yield at, at == first + start, 9, at
+        answer = unframe([channels, depth, block, 0, group, spare], data[at:])
+        yield len(data) + 1 if answer == [-2] else at, answer != [-3], 9, at
+        yield at, answer[1:3] == [k, min(block, samples - k * block)], 9, at
+        frames.append(data[at:at + answer[0]])
+        known["frames"] += 1
+        known["numbers"] += answer[3:]
+        at += answer[0]
+        if len(frames) == group or k == count - 1:
+            for j in range(spare):
+                want = piece(k // group, j, frames)
+                for seen in (2, 4, 5, 7, len(want)):
+                    yield at + seen, data[at:at + seen] == want[:seen], 9, at
+                at += len(want)
+            frames = []
+    for part in (data[begin:first], data[:26], sum_of(depth, known["numbers"])):
+        yield at + len(part), data[at:at + len(part)] == part, 10, at
+        at += len(part)
+    yield at, len(data) == at, 11, at
+
+
+def head_looks(data, known):
+    yield 8, bytes(data[:8]) == b"SKEEP\x01\r\n", 2, 0
+    fields, at = [], 8
+    for width in (1, 1, 2, 1, 1, 4, 4):
+        fields.append(value(data[at:at + width]))
+        at += width
+    ranges = ((1, 4), (4, 24), (16, 256), (1, 8), (0, 4), (0, 2048 // max(1, fields[0])), (6, 1024))
+    yield 22, all(least <= field <= most for field, (least, most) in zip(fields, ranges)), 3, 8
+    yield 26, data[22:26] == crc(data[:22]), 4, 22
+    known["head"] = fields
+
+
+def tag_looks(data, end, known):
+    yield 28, value(data[26:28]) <= 16, 5, 26
+    at = 28
+    for count in range(value(data[26:28])):
+        yield at, at < end, 5, at
+        size = value(data[at:at + 1])
+        yield at + 1, 1 <= size <= 32 and at + 1 + size + 2 <= end, 5, at
+        key = data[at + 1:at + 1 + size]
+        fresh = all(key != other for other, content in known["tags"])
+        yield at + 1 + size, fresh and all(33 <= byte <= 126 and byte != ord("=") for byte in key), 5, at
+        begin = at + 1 + size + 2
+        behind = begin + value(data[begin - 2:begin])
+        yield begin, behind <= end, 5, at
+        yield behind, True, None, None
+        known["tags"].append((key, data[begin:behind]))
+        at = behind
+    for place in range(at, end):
+        yield place + 1, data[place:place + 1] == [0], 5, place
+    yield end + 4, data[end:end + 4] == crc(data[26:end]), 6, end
+
+
+@functools.lru_cache(maxsize=None)
+def kept_frame(k, form, numbers):
+    return tuple(least_frame(k, list(form), list(numbers)))
+
+
+def small_frame(k, form, numbers):
+    """The least frame, for small ones that are asked for again and again."""
+    return list(kept_frame(k, tuple(form), tuple(numbers)))
 
 
 # What several tests hand in.
+
+FILE_FORM = [1, 8, 16, 4, 2, 2]
+FILE_NUMBERS = [t * t % 31 - 9 for t in range(77)]
+FILE_TAGS = [tag("one", [1, 2, 3]), tag("two"), tag("three", [0, 255])]
+
+
+def made(form=FILE_FORM, numbers=FILE_NUMBERS, tags=FILE_TAGS, pad=0):
+    """A small file: of five frames in three groups, with two spare pieces each, if nothing else is asked for."""
+    return Made(form, numbers, tags, pad, small_frame)
+
+
+def turned(data, place, by=1):
+    """The bytes with bits of one turned over."""
+    return data[:place] + [data[place] ^ by] + data[place + 1:]
+
 
 NO_FORMS = [[], [1], [1, 16, 16, 0, 1], [1, 16, 16, 0, 1, 0, 0], [1, 16, 16, 0, 1, 0, 0, 0]]
 NO_FORMS += [[1, 16, 16, 0, 1, 0][:i] + [bad] + [1, 16, 16, 0, 1, 0][i + 1:] for i, bads in enumerate((

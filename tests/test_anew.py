@@ -4,7 +4,7 @@ import itertools
 import random
 import unittest
 
-from helper import crc, flat, full_rows, number, piece, piece_of, piece_of_rows, rows_of, some_bytes, some_frames
+from helper import crc, flat, full_rows, number, piece, piece_of, piece_of_rows, rows_of, some_bytes, some_frames, value
 from soundkeeping.keeping import anew, spare
 
 
@@ -176,6 +176,30 @@ class BadPieces(Anew):
         for size in range(1, len(self.right)):
             self.bad(self.right[:size])
             self.bad(piece(5, 0, self.frames) + self.right[:size])
+
+    def test_not_whole_with_a_check_of_0(self):
+        # Fewer bytes 0 than the check has would be the same number.
+        row = [0, 1, 5, 0, 0]
+        whole = piece_of(5, 1, 9, row + self.checked_0(row))
+        self.assertEqual(whole[-4:], [0] * 4)
+        self.assertEqual(anew(5, [0, 1, 1], whole), [3, 0, 1, 1])
+        for size in range(1, 5):
+            self.assertEqual(anew(5, [0, 1, 1], whole[:-size]), [-2])
+
+    def checked_0(self, row):
+        """The four bytes that make the check 0: it is changed by each of their bits independently."""
+        def check_of(bits):
+            return value(piece_of(5, 1, 9, row + number(4, bits))[-4:])
+
+        pairs = [(check_of(1 << bit) ^ check_of(0), 1 << bit) for bit in range(32)]
+        left, chosen = check_of(0), 0
+        for top in range(31, -1, -1):
+            change, bits = next(pair for pair in pairs if pair[0].bit_length() == top + 1)
+            pairs.remove((change, bits))
+            pairs = [(one ^ change, some ^ bits) if one >> top & 1 else (one, some) for one, some in pairs]
+            if left >> top & 1:
+                left, chosen = left ^ change, chosen ^ bits
+        return number(4, chosen)
 
     def test_bytes_behind(self):
         for behind in ([0], [0x4B], [0x4B, 0x50], [0] * 20):
