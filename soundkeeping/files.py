@@ -1,7 +1,7 @@
 """A file written: head, tags, index, frames with their spare pieces, index and head once more, sum."""
 
 from soundkeeping.frames import write_frame
-from soundkeeping.heads import write_head
+from soundkeeping.heads import HEAD_SIZE, write_head
 from soundkeeping.octets import CRC32_SIZE, crc32, sealed, to_octets
 from soundkeeping.spares import write_piece
 
@@ -27,6 +27,14 @@ def write_file(form, numbers, tags_part):
     body = write_body(form, numbers)
     index = write_index(body.starts)
     return head + tags_part + index + body.written + index + head + write_sum(form.depth, numbers)
+
+
+# A file that has no fault, with other tags: all else but the two heads stays as it was.
+def with_tags(head, data, tags_part):
+    new_head = write_head(head.form, head.samples, len(tags_part))
+    recording_sum = data[-CRC32_SIZE:]
+    between = data[HEAD_SIZE + head.tags_size:-HEAD_SIZE - CRC32_SIZE]
+    return new_head + tags_part + between + new_head + recording_sum
 
 
 def write_body(form, numbers):

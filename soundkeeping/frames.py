@@ -102,6 +102,18 @@ def read_frame(form, data):
         raise Short() from None
 
 
+# The frame at the beginning of the bytes, if it's taken and one of a recording of so many samples; None else.
+# A frame of a number that's too high would have no samples, so none has as many as it should have.
+def recorded_frame(form, samples, data):
+    try:
+        taken = read_frame(form, data)
+    except Wrong:
+        return None
+    except Short:
+        return None
+    return taken if taken.n == form.frame_samples(taken.k, samples) else None
+
+
 def read_items(form, reader):
     if reader.unsigned(16) != MARK:
         raise Wrong()

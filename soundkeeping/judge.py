@@ -38,6 +38,11 @@ def hear_beginning(data):
     return heard(data, [hear_head, hear_tags])
 
 
+# Looks at nothing behind the index; if all is right the reading stands where the first frame begins.
+def hear_front(data):
+    return heard(data, [hear_head, hear_tags, hear_index])
+
+
 def heard(data, stages):
     hearing = Hearing(data)
     try:

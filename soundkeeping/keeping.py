@@ -1,14 +1,15 @@
 """The calls of soundkeep. Each answers one list of whole numbers, or a refusal alone."""
 
 from soundkeeping.bits import Short, Wrong
-from soundkeeping.files import write_file
+from soundkeeping.files import with_tags, write_file
 from soundkeeping.forms import MOST_NUMBERS, Form, all_fit, is_form
 from soundkeeping.frames import read_frame, write_frame
-from soundkeeping.judge import hear_beginning, hear_file
+from soundkeeping.judge import hear_beginning, hear_file, hear_front
 from soundkeeping.parts import kind_bits
 from soundkeeping.reading import Faulty
+from soundkeeping.samples import Missing, read_samples
 from soundkeeping.spares import MOST_PIECES, Unfit, Unmade, made_anew, read_pieces, read_rows, write_piece, write_rows
-from soundkeeping.tags import write_tags
+from soundkeeping.tags import tag_bytes, write_tags
 
 # What the number of a frame has to be below.
 FRAME_NUMBERS = 1048576
@@ -16,6 +17,7 @@ FRAME_NUMBERS = 1048576
 GROUP_NUMBERS = 65536
 GREATEST_WIDTH = 25
 MOST_WEIGHED = 256
+MOST_READ = 2048
 LONGEST_FILE = 16384
 
 
@@ -128,3 +130,43 @@ def find(file, key):
         if tag.key == key:
             return [place] + counted(tag.value)
     return [-3]
+
+
+def read(begin, n, file):
+    if n > MOST_READ:
+        return [-1]
+    front = hear_front(file)
+    if front.reading.fault != 0:
+        return [-2]
+    if begin + n > front.head.samples:
+        return [-3]
+    try:
+        numbers = read_samples(front, begin, n)
+    except Missing:
+        return [-9]
+    return [front.head.form.channels] + counted(numbers)
+
+
+def retag(pad, file, tags):
+    if hear_beginning(file).reading.fault != 0:
+        return [-2]
+    try:
+        tags_part = write_tags(pad, tags)
+    except Faulty:
+        return [-3]
+    heard = hear_file(file)
+    if heard.reading.fault != 0:
+        return [-9]
+    return file_answer(with_tags(heard.head, file, tags_part))
+
+
+def cut(begin, n, file):
+    answer = read(begin, n, file)
+    if answer[0] < 0:
+        return answer
+    return file_answer(repacked(hear_front(file), answer[2:]))
+
+
+# The file of these numbers, with the form and the tags of the one that was heard.
+def repacked(front, numbers):
+    return write_file(front.head.form, numbers, write_tags(0, tag_bytes(front.tags)))

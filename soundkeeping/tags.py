@@ -58,6 +58,14 @@ def read_tags(reading, size, tags):
     reading.seal(begin, BAD_TAGS_CHECK)
 
 
+# The tags one behind another.
+def tag_bytes(tags):
+    written = []
+    for tag in tags:
+        written.extend([len(tag.key)] + tag.key + to_octets(VALUE_LENGTH_SIZE, len(tag.value)) + tag.value)
+    return written
+
+
 # The part of a file that holds these tags, which stand one behind another.
 def write_tags(pad, data):
     if COUNT_SIZE + len(data) + pad + CRC32_SIZE > MOST_TAGS_SIZE:

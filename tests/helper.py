@@ -11,6 +11,10 @@ from fractions import Fraction
 FORM = [1, 16, 256, 4, 4, 2]
 
 
+def flat(lists):
+    return [item for one in lists for item in one]
+
+
 def u(width, number):
     assert 0 <= number < 2 ** width
     return bin(number + 2 ** width)[3:]
@@ -112,6 +116,13 @@ def linear(w, h, factors, numbers, r=0, ways=((0, 0),), z=0):
     p = len(factors)
     text = zeros_bits(z) + u(4, 6 + p) + first_bits(w - z, ys, p) + u(4, h) + "".join(s(12, a) for a in factors)
     return text + rests_bits(len(ys), p, r, ways, rests_of(factors, h, ys))
+
+
+def long_frame(k, size):
+    """Sixteen numbers of 24 bits, and a frame of so many bytes for them: its first rest has a run as long as it takes."""
+    q = 8 * (size - 2) - (44 + 1 + 4 + 3 + 5) - 16
+    e = q // 2 if q % 2 == 0 else -(q + 1) // 2
+    return [e] + [0] * 15, closed(head(k, 16) + fixed(24, 0, [e] + [0] * 15))
 
 
 # What the document says of the least, word by word.
@@ -531,6 +542,45 @@ def tag_looks(data, end, known):
     yield end + 4, data[end:end + 4] == crc(data[26:end]), 6, end
 
 
+def front_of(data, unframe):
+    """How many bytes head, tags and index have, and what's known of them; None if they have a fault."""
+    told, known = judged(data[:26], unframe)
+    if not known["head"]:
+        return None
+    channels, depth, block, group, spare, samples, size = known["head"]
+    end = 26 + size + 3 * -(-samples // block) + 4
+    told, known = judged(data[:end], unframe)
+    return (end, known) if told == [1, end] else None
+
+
+def samples_told(begin, n, data, unframe):
+    """What read answers, sample by sample."""
+    if n > 2048:
+        return [-1]
+    front = front_of(data, unframe)
+    if front is None:
+        return [-2]
+    channels, depth, block, group, spare, samples, size = front[1]["head"]
+    if begin + n > samples:
+        return [-3]
+    frames, numbers = {}, []
+    for t in range(begin, begin + n):
+        k = t // block
+        if k not in frames:
+            at = front[0] + value(data[26 + size + 3 * k:26 + size + 3 * k + 3])
+            frames[k] = unframe([channels, depth, block, 0, group, spare], data[at:])
+            if frames[k][1:3] != [k, min(block, samples - k * block)]:
+                return [-9]
+        numbers += frames[k][3:][t % block * channels:t % block * channels + channels]
+    return [channels, len(numbers)] + numbers
+
+
+def plain_frame(k, form, numbers):
+    """A frame that's taken but isn't the least: each channel by itself, number by number."""
+    rows = [numbers[c::form[0]] for c in range(form[0])]
+    return closed(head(k, len(rows[0])) + "00" * (form[0] // 2) + "".join(plain(form[1], one) for one in rows))
+
+
 @functools.lru_cache(maxsize=None)
 def kept_frame(k, form, numbers):
     return tuple(least_frame(k, list(form), list(numbers)))
@@ -557,6 +607,63 @@ def turned(data, place, by=1):
     """The bytes with bits of one turned over."""
     return data[:place] + [data[place] ^ by] + data[place + 1:]
 
+
+def faulty_heads():
+    """The small file with another head: each of its bytes turned over, and each reason by itself with a right check."""
+    one = made()
+    size, samples = len(one.parts["tags"]), len(FILE_NUMBERS)
+    heads = [turned(one.parts["head"], place, by) for place in range(26) for by in (1, 128)]
+    for place, bads in ((0, (0, 5)), (1, (3, 25)), (2, (15, 257)), (4, (0, 9)), (5, (5, 255))):
+        heads += [head_of(FILE_FORM[:place] + [bad] + FILE_FORM[place + 1:], samples, size) for bad in bads]
+    heads += [head_of([channels] + FILE_FORM[1:], count, size)
+              for channels, count in ((1, 2049), (2, 1025), (3, 683), (4, 513), (1, 2 ** 32 - 1))]
+    heads += [head_of(FILE_FORM, samples, bad) for bad in (0, 5, 1025, 2 ** 32 - 1)]
+    return [one.changed("head", head) for head in heads]
+
+
+def faulty_tags():
+    """The small file with other tags: each of their bytes turned over, and each reason by itself with a right check."""
+    one = made(pad=3)
+    files = [turned(one.data(), place, 128) for place in range(26, one.place("index"))]
+    for part in (
+        tags_part(FILE_TAGS, 0, 4),
+        tags_part(FILE_TAGS, 9, 4),
+        tags_part(FILE_TAGS, 0, 2),
+        tags_part(FILE_TAGS, 0, 17),
+        tags_part([tag("k" + sign) for sign in "abcdefghijklmnopq"]),
+        tags_part([tag("")]),
+        tags_part([tag("k" * 33)]),
+        tags_part([tag("one"), tag("one", [2])]),
+        tags_part([tag("a=b")]),
+        tags_part([tag(" ")]),
+        tags_part([[1, 127, 0, 0]]),
+        tags_part([[3, 97, 98]], 0, 1),
+        tags_part([[1, 97, 0, 9]]),
+        tags_part([tag("one"), [0, 0, 1]], 0, 1),
+    ):
+        head = head_of(FILE_FORM, len(FILE_NUMBERS), len(part))
+        files.append(flat({**one.parts, "head": head, "tags": part, "head again": head}.values()))
+    return files
+
+
+def faulty_indexes():
+    """The small file with another index: each of its bytes turned over, and entries that can't be with a right check."""
+    one = made()
+    index = one.parts["index"]
+    starts = [value(index[at:at + 3]) for at in range(0, len(index) - 4, 3)]
+    indexes = [turned(index, place, by) for place in range(len(index)) for by in (1, 128)]
+    indexes += [index_of(bad) for bad in (
+        [1] + starts[1:], [start + 1 for start in starts], [0, 0] + starts[2:], starts[:2] + [starts[1]] + starts[3:],
+        starts[:2] + [starts[1] - 1] + starts[3:], starts[:4] + [0], starts[:4] + [starts[3]],
+    )]
+    return [one.changed("index", bad) for bad in indexes]
+
+
+# Tags that can't be, as they're handed in, each for one reason.
+NO_TAGS = [flat(tag("k" + sign) for sign in "abcdefghijklmnopq"), tag(""), tag("k" * 33), tag("b") + tag("") + tag("c"),
+           tag("a") + tag("a"), tag("a", [1]) + tag("b") + tag("a", [2]), tag("a=b"), tag(" "), [1, 127, 0, 0],
+           [1, 255, 0, 0], [1, 0, 0, 0], [0], [1], [1, 97], [1, 97, 0], [1, 97, 0, 1], [1, 97, 0, 2, 7], [3, 97, 98, 0, 0],
+           tag("a", [7]) + [0], tag("a", [7, 8])[:-1], tag("a", [7] * 1015), tag("a") + tag("b", [7] * 2000)]
 
 NO_FORMS = [[], [1], [1, 16, 16, 0, 1], [1, 16, 16, 0, 1, 0, 0], [1, 16, 16, 0, 1, 0, 0, 0]]
 NO_FORMS += [[1, 16, 16, 0, 1, 0][:i] + [bad] + [1, 16, 16, 0, 1, 0][i + 1:] for i, bads in enumerate((
@@ -634,10 +741,6 @@ def woven(*rows):
     return [number for sample in zip(*rows, strict=True) for number in sample]
 
 
-def flat(lists):
-    return [item for one in lists for item in one]
-
-
 def some_tags(rnd, most=16):
     """Tags of keys that differ, as single ones, short enough to have room together."""
     tags = []
@@ -645,3 +748,31 @@ def some_tags(rnd, most=16):
         key = "k" * rnd.randint(0, 3) + "abcdefghijklmnop"[place] + rnd.choice(["", "!", "~", "<>"])
         tags.append(tag(key, some_bytes(rnd, rnd.choice([0, 0, 1, 5, rnd.randint(0, 40)]))))
     return tags
+
+
+# What holds of every call.
+
+class Held(list):
+    """A list that nobody may change, not for a while either."""
+
+    def refuse(self, *arguments):
+        raise AssertionError("a list that was handed in was changed")
+
+    append = extend = insert = pop = remove = clear = sort = reverse = refuse
+    __setitem__ = __delitem__ = __iadd__ = __imul__ = refuse
+
+
+def by_itself(test, call, between, arguments):
+    """Lists that are handed in are unchanged; the answer is a list of whole numbers, of its own, and the same again,
+    whatever was asked between and whatever became of an earlier answer."""
+    answer = call(*[Held(one) if isinstance(one, list) else one for one in arguments])
+    test.assertIs(type(answer), list)
+    test.assertTrue(all(type(one) is int for one in answer))
+    kept = [list(one) if isinstance(one, list) else one for one in arguments]
+    test.assertEqual(call(*arguments), answer)
+    call(*between)
+    again = call(*arguments)
+    test.assertEqual(again, answer)
+    again.append(0)
+    test.assertEqual(call(*arguments), answer)
+    test.assertEqual(arguments, kept)

@@ -4,7 +4,8 @@ import itertools
 import random
 import unittest
 
-from helper import crc, flat, full_rows, number, piece, piece_of, piece_of_rows, rows_of, some_bytes, some_frames, value
+from helper import (by_itself, crc, flat, full_rows, number, piece, piece_of, piece_of_rows, rows_of, some_bytes,
+                    some_frames, value)
 from soundkeeping.keeping import anew, spare
 
 
@@ -370,16 +371,7 @@ class ByItself(unittest.TestCase):
             lost = rnd.sample(range(5), trial % 4)
             rows = rows_of(without(frames, lost))
             pieces = flat([piece(7, j, frames) for j in range(rnd.randint(0, 4))]) + [0] * (trial % 5 == 4)
-            kept = (list(rows), list(pieces))
-            answer = anew(7, rows, pieces)
-            self.assertEqual((rows, pieces), kept)
-            anew(3, number(2, 1) + [5], [])
-            self.assertEqual(anew(7, rows, pieces), answer)
-            self.assertIs(type(answer), list)
-            self.assertTrue(all(type(one) is int for one in answer))
-            answer.append(0)
-            self.assertEqual(anew(7, rows, pieces), answer[:-1])
-            self.assertEqual((rows, pieces), kept)
+            by_itself(self, anew, [3, number(2, 1) + [5], []], [7, rows, pieces])
 
 
 if __name__ == "__main__":

@@ -3,7 +3,8 @@
 import random
 import unittest
 
-from helper import FILE_FORM, FILE_NUMBERS, crc, flat, head_of, judged, made, number, some_tags, tag, tags_part, turned
+from helper import (FILE_FORM, FILE_NUMBERS, by_itself, crc, flat, head_of, judged, made, number, some_tags, tag,
+                    tags_part, turned)
 from soundkeeping.keeping import find, pack, unframe
 
 TAGS = [tag("one", [1, 2, 3]), tag("two"), tag("three", [0, 255]), tag("t", list(range(256)))]
@@ -139,18 +140,10 @@ class Faults(unittest.TestCase):
 class ByItself(unittest.TestCase):
     def test_unchanged_and_the_same_again(self):
         right = tagged().data()
+        between = [tagged([tag("one", [7])]).data(), signs("one")]
         for data in (right, turned(right, 30, 128), right[:40], right[:-9]):
             for key in (signs("one"), signs("t"), signs("x"), []):
-                kept = (list(data), list(key))
-                answer = find(data, key)
-                self.assertEqual((data, key), kept)
-                find(tagged([tag("one", [7])]).data(), signs("one"))
-                self.assertEqual(find(data, key), answer)
-                self.assertIs(type(answer), list)
-                self.assertTrue(all(type(one) is int for one in answer))
-                answer.append(0)
-                self.assertEqual(find(data, key), answer[:-1])
-                self.assertEqual((data, key), kept)
+                by_itself(self, find, between, [data, key])
 
 
 if __name__ == "__main__":

@@ -3,8 +3,8 @@
 import random
 import unittest
 
-from helper import (EDGE_FORMS, FORM, NO_FORMS, Look, closed, fixed, head, least_frame, linear, mono, plain, same,
-                    some_form, sound, stereo, u, woven)
+from helper import (EDGE_FORMS, FORM, Look, NO_FORMS, by_itself, closed, fixed, head, least_frame, linear, mono, plain,
+                    same, some_form, sound, stereo, u, woven)
 from soundkeeping.keeping import frame, unframe, weigh
 
 
@@ -467,18 +467,10 @@ class ByItself(unittest.TestCase):
         rnd = random.Random(10)
         for trial in range(30):
             form = some_form(rnd, 20)
-            numbers = sound(rnd, form, 20)
-            kept = (list(form), list(numbers))
-            answer = frame(trial, form, numbers)
-            self.assertEqual((form, numbers), kept)
-            frame(0, FORM, [1, 2, 3])
-            self.assertEqual(frame(trial, form, numbers), answer)
-            self.assertTrue(all(type(number) is int for number in answer))
-            self.assertIs(type(answer), list)
+            by_itself(self, frame, [0, FORM, [1, 2, 3]], [trial, form, sound(rnd, form, 20)])
 
     def test_refusals_are_lists_of_their_own(self):
-        frame(0, [], []).append(5)
-        self.assertEqual(frame(0, [], []), [-1])
+        by_itself(self, frame, [0, FORM, [1, 2, 3]], [0, [], []])
 
 
 if __name__ == "__main__":

@@ -3,8 +3,8 @@
 import random
 import unittest
 
-from helper import (FILE_FORM, FILE_NUMBERS, FILE_TAGS, crc, flat, head_of, heard, index_of, made, number, piece,
-                    small_frame, some_bytes, some_tags, sound, sum_of, tag, tags_part, turned)
+from helper import (FILE_FORM, FILE_NUMBERS, FILE_TAGS, by_itself, crc, flat, head_of, heard, index_of, made, number,
+                    piece, small_frame, some_bytes, some_tags, sound, sum_of, tag, tags_part, turned)
 from soundkeeping.keeping import check, find, hear, pack, unframe
 
 HEAD = [1, 1, 8, 16, 2, 2, 77, 6 + len(flat(FILE_TAGS))]
@@ -228,15 +228,7 @@ class ByItself(unittest.TestCase):
         right = made(pad=5).data()
         for trial in range(80):
             data = list(right) if trial % 4 == 0 else turned(right, rnd.randrange(len(right)), rnd.randint(1, 255))
-            kept = list(data)
-            answer = hear(data)
-            self.assertEqual(data, kept)
-            hear(made(FILE_FORM, [1, 2, 3], ()).data())
-            self.assertEqual(hear(data), answer)
-            self.assertIs(type(answer), list)
-            self.assertTrue(all(type(one) is int for one in answer))
-            answer.append(0)
-            self.assertEqual(hear(data), answer[:-1])
+            by_itself(self, hear, [made(FILE_FORM, [1, 2, 3], ()).data()], [data])
 
 
 if __name__ == "__main__":

@@ -3,8 +3,8 @@
 import random
 import unittest
 
-from helper import (EDGE_FORMS, NO_FORMS, crc, file_of, flat, frames_of, head_of, mono, number, piece, some_tags,
-                    sound, sum_of, tag, tags_part)
+from helper import (EDGE_FORMS, NO_FORMS, by_itself, crc, file_of, flat, frames_of, head_of, mono, number, piece,
+                    some_tags, sound, sum_of, tag, tags_part)
 from soundkeeping.keeping import frame, pack
 
 
@@ -325,15 +325,7 @@ class ByItself(unittest.TestCase):
             form = [rnd.randint(1, 4), rnd.randint(4, 24), 16, rnd.randint(0, 4), rnd.randint(1, 8), rnd.randint(0, 4)]
             numbers = sound(rnd, form, rnd.randint(0, 40))
             tags = flat(some_tags(rnd)) + [0] * (trial % 4 == 3)
-            kept = (list(form), list(numbers), list(tags))
-            answer = pack(trial, form, numbers, tags)
-            self.assertEqual((form, numbers, tags), kept)
-            pack(1, mono(8), [1, 2, 3], tag("other"))
-            self.assertEqual(pack(trial, form, numbers, tags), answer)
-            self.assertIs(type(answer), list)
-            self.assertTrue(all(type(one) is int for one in answer))
-            answer.append(0)
-            self.assertEqual(pack(trial, form, numbers, tags), answer[:-1])
+            by_itself(self, pack, [1, mono(8), [1, 2, 3], tag("other")], [trial, form, numbers, tags])
 
 
 if __name__ == "__main__":

@@ -4,7 +4,7 @@ import itertools
 import random
 import unittest
 
-from helper import crc, number, piece, rows_of, some_bytes, some_frames, times
+from helper import by_itself, crc, number, piece, rows_of, some_bytes, some_frames, times
 from soundkeeping.keeping import spare
 
 
@@ -141,15 +141,7 @@ class ByItself(unittest.TestCase):
         rnd = random.Random(54)
         for count, j in itertools.product((1, 3, 8), range(4)):
             for rows in (rows_of(some_frames(rnd, count)), rows_of(some_frames(rnd, count)) + [0]):
-                kept = list(rows)
-                answer = spare(5, j, rows)
-                self.assertEqual(rows, kept)
-                spare(9, 3 - j, [0, 2, 8, 8])
-                self.assertEqual(spare(5, j, rows), answer)
-                self.assertIs(type(answer), list)
-                self.assertTrue(all(type(one) is int for one in answer))
-                answer.append(0)
-                self.assertEqual(spare(5, j, rows), answer[:-1])
+                by_itself(self, spare, [9, 3 - j, [0, 2, 8, 8]], [5, j, rows])
 
 
 if __name__ == "__main__":

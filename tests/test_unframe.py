@@ -3,8 +3,8 @@
 import random
 import unittest
 
-from helper import (EDGE_FORMS, FORM, NO_FORMS, closed, first_bits, fixed, group_bits, head, linear, mono, plain, run,
-                    s, same, some_form, sound, stereo, to_bytes, u, woven, zeros_bits)
+from helper import (EDGE_FORMS, FORM, NO_FORMS, by_itself, closed, first_bits, fixed, group_bits, head, linear,
+                    long_frame, mono, plain, run, s, same, some_form, sound, stereo, to_bytes, u, woven, zeros_bits)
 from soundkeeping.keeping import frame, unframe
 
 # Behind what's told to be wrong, or a frame's end, anything may stand.
@@ -475,15 +475,9 @@ class WrongEnds(Unframed):
 
 
 class TheFirst4096(Unframed):
-    def long_frame(self, size):
-        """A frame of so many bytes: its first rest has a run as long as it takes."""
-        q = 8 * (size - 2) - (44 + 1 + 4 + 3 + 5) - 16
-        e = q // 2 if q % 2 == 0 else -(q + 1) // 2
-        return [e] + [0] * 15, closed(head(0, 16) + fixed(24, 0, [e] + [0] * 15))
-
     def test_a_frame_as_long_as_can_be(self):
         for size in (4000, 4095, 4096):
-            numbers, data = self.long_frame(size)
+            numbers, data = long_frame(0, size)
             self.assertEqual(len(data), size)
             for behind in ([], [0], [1, 2, 3], [255] * 6000):
                 self.assertEqual(unframe(mono(24), data + behind), [size, 0, 16] + numbers)
@@ -492,7 +486,7 @@ class TheFirst4096(Unframed):
 
     def test_longer_is_wrong(self):
         for size in (4097, 4098, 4099, 6000, 16384):
-            data = self.long_frame(size)[1]
+            data = long_frame(0, size)[1]
             self.assertEqual(len(data), size)
             self.assertEqual(unframe(mono(24), data), [-3])
             self.assertEqual(unframe(mono(24), data[:4096]), [-3])
@@ -533,19 +527,7 @@ class ByItself(unittest.TestCase):
                 data = data[:-1]
             if trial % 3 == 2:
                 data[7] ^= 5
-            kept = (list(form), list(data))
-            answer = unframe(form, data)
-            self.assertEqual((form, data), kept)
-            unframe(FORM, [0x4B, 0x57, 1])
-            self.assertEqual(unframe(form, data), answer)
-            self.assertTrue(all(type(number) is int for number in answer))
-            self.assertIs(type(answer), list)
-
-    def test_answers_are_lists_of_their_own(self):
-        data = frame(0, mono(8), [1, 2, 3])[1:]
-        answer = unframe(mono(8), data)
-        answer.append(9)
-        self.assertEqual(unframe(mono(8), data), answer[:-1])
+            by_itself(self, unframe, [FORM, [0x4B, 0x57, 1]], [form, data])
 
 
 if __name__ == "__main__":

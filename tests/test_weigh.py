@@ -3,7 +3,7 @@
 import random
 import unittest
 
-from helper import fixed, linear, plain, row, ways_of_part
+from helper import by_itself, fixed, linear, plain, row, ways_of_part
 from soundkeeping.keeping import frame, weigh
 
 
@@ -184,14 +184,8 @@ class ByItself(unittest.TestCase):
         rnd = random.Random(45)
         for trial in range(40):
             numbers = row(rnd, 12, 24)
-            kept = list(numbers)
-            answer = weigh(12, numbers)
-            self.assertEqual(numbers, kept)
-            weigh(4, [1, 2, 3])
-            self.assertEqual(weigh(12, numbers), answer)
-            self.assertTrue(all(type(number) is int for number in answer))
-            self.assertIs(type(answer), list)
-            self.assertEqual(len(answer), 10)
+            by_itself(self, weigh, [4, [1, 2, 3]], [12, numbers])
+            self.assertEqual(len(weigh(12, numbers)), 10)
 
 
 if __name__ == "__main__":
