@@ -21,6 +21,13 @@ class Form:
     def frame_samples(self, k, samples):
         return min(self.block, samples - k * self.block)
 
+    def group_count(self, samples):
+        return (self.frame_count(samples) + self.group - 1) // self.group
+
+    # All but the order, which a file doesn't keep.
+    def kept_numbers(self):
+        return [self.channels, self.depth, self.block, self.group, self.spare]
+
     def last_of_group(self, k, frame_count):
         return (k + 1) % self.group == 0 or k + 1 == frame_count
 

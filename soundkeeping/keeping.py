@@ -5,6 +5,7 @@ from soundkeeping.files import with_tags, write_file
 from soundkeeping.forms import MOST_NUMBERS, Form, all_fit, is_form
 from soundkeeping.frames import read_frame, write_frame
 from soundkeeping.judge import hear_beginning, hear_file, hear_front
+from soundkeeping.mending import all_numbers, lost_stretches, mended
 from soundkeeping.parts import kind_bits
 from soundkeeping.reading import Faulty
 from soundkeeping.samples import Missing, read_samples
@@ -118,8 +119,7 @@ def hear(data):
 def head_answer(head):
     if head is None:
         return [0]
-    form = head.form
-    return [1, form.channels, form.depth, form.block, form.group, form.spare, head.samples, head.tags_size]
+    return [1] + head.form.kept_numbers() + [head.samples, head.tags_size]
 
 
 def find(file, key):
@@ -170,3 +170,31 @@ def cut(begin, n, file):
 # The file of these numbers, with the form and the tags of the one that was heard.
 def repacked(front, numbers):
     return write_file(front.head.form, numbers, write_tags(0, tag_bytes(front.tags)))
+
+
+def join(a, b):
+    first = hear_front(a)
+    second = hear_front(b)
+    if first.reading.fault != 0 or second.reading.fault != 0:
+        return [-2]
+    form = first.head.form
+    if form.kept_numbers() != second.head.form.kept_numbers():
+        return [-3]
+    if (first.head.samples + second.head.samples) * form.channels > MOST_NUMBERS:
+        return [-1]
+    try:
+        numbers = read_samples(first, 0, first.head.samples) + read_samples(second, 0, second.head.samples)
+    except Missing:
+        return [-9]
+    return file_answer(repacked(first, numbers))
+
+
+def mend(n, form, data):
+    if not is_form(form) or n * form[0] > MOST_NUMBERS:
+        return [-1]
+    finds = mended(Form(form), n, data)
+    stretches = lost_stretches(finds)
+    answer = [n - sum([stretch[1] for stretch in stretches]), len(stretches)]
+    for stretch in stretches:
+        answer.extend(stretch)
+    return answer + counted(all_numbers(finds))

@@ -575,6 +575,72 @@ def samples_told(begin, n, data, unframe):
     return [channels, len(numbers)] + numbers
 
 
+def as_it_should_be(n, form, answer):
+    """Whether what unframe answered is one of the frames of a recording of n samples."""
+    return len(answer) > 1 and answer[1] < -(-n // form[2]) and answer[2] == min(form[2], n - answer[1] * form[2])
+
+
+def piece_there(n, form, data):
+    """The bytes of the spare piece of such a recording that stands at the beginning; None if there's none."""
+    r = value(data[5:7])
+    one = data[:7 + r + 4]
+    right = data[:2] == [0x4B, 0x50] and len(one) == 7 + r + 4 and 3 <= r <= 4098 and one[-4:] == crc(one[:-4])
+    return one if right and value(one[2:4]) * form[4] * form[2] < n and one[4] < form[5] else None
+
+
+def searched(n, form, data, unframe):
+    """The frames by number and the pieces by group and j that mend finds, place by place."""
+    frames, pieces, at = {}, {}, 0
+    while at < len(data):
+        answer = unframe(form, data[at:])
+        one = piece_there(n, form, data[at:])
+        if as_it_should_be(n, form, answer):
+            frames.setdefault(answer[1], data[at:at + answer[0]])
+            at += answer[0]
+        elif one is not None:
+            pieces.setdefault((value(one[2:4]), one[4]), one)
+            at += len(one)
+        else:
+            at += 1
+    return frames, pieces
+
+
+def lost_made(n, form, frames, pieces, unframe, anew):
+    """The lost frames that come back, by number."""
+    found = {}
+    for first in range(0, -(-n // form[2]), form[4]):
+        ks = range(first, min(first + form[4], -(-n // form[2])))
+        own = [one for (g, j), one in sorted(pieces.items()) if g == first // form[4]]
+        own = [one for one in own if one[5:7] == own[0][5:7]]
+        answer = anew(first // form[4], rows_of([frames.get(k, []) for k in ks]), flat(own))
+        at = 1
+        for k in ks if len(answer) > 1 else []:
+            one = answer[at + 2:at + 2 + value(answer[at:at + 2])]
+            at += 2 + len(one)
+            again = unframe(form, one)
+            if k not in frames and as_it_should_be(n, form, again) and again[:2] == [len(one), k]:
+                found[k] = one
+    return found
+
+
+def mended(n, form, data, unframe, anew):
+    """What mend answers, sample by sample."""
+    frames, pieces = searched(n, form, data, unframe)
+    frames.update(lost_made(n, form, frames, pieces, unframe, anew))
+    numbers, lost = [], []
+    for t in range(n):
+        k = t // form[2]
+        if k in frames:
+            numbers += unframe(form, frames[k])[3:][t % form[2] * form[0]:t % form[2] * form[0] + form[0]]
+        else:
+            numbers += [0] * form[0]
+            lost.append(t)
+    begins = [t for t in lost if t - 1 not in lost]
+    ends = [t for t in lost if t + 1 not in lost]
+    stretches = flat([begin, end - begin + 1] for begin, end in zip(begins, ends))
+    return [n - len(lost), len(begins)] + stretches + [len(numbers)] + numbers
+
+
 def plain_frame(k, form, numbers):
     """A frame that's taken but isn't the least: each channel by itself, number by number."""
     rows = [numbers[c::form[0]] for c in range(form[0])]

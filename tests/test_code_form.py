@@ -214,7 +214,8 @@ class Interface(unittest.TestCase):
         told = {"frame": ["k", "form", "numbers"], "unframe": ["form", "data"], "weigh": ["w", "numbers"],
                 "spare": ["g", "j", "rows"], "anew": ["g", "rows", "pieces"], "pack": ["pad", "form", "numbers", "tags"],
                 "check": ["data"], "hear": ["data"], "find": ["file", "key"], "read": ["begin", "n", "file"],
-                "retag": ["pad", "file", "tags"], "cut": ["begin", "n", "file"]}
+                "retag": ["pad", "file", "tags"], "cut": ["begin", "n", "file"], "join": ["a", "b"],
+                "mend": ["n", "form", "data"]}
         found = {node.name: [arg.arg for arg in node.args.args] for node in TREES["keeping.py"].body
                  if isinstance(node, ast.FunctionDef)}
         for name, arguments in told.items():
